@@ -1,0 +1,1 @@
+"""Nest: loops turned about. The way in is answers in loopnest.desk."""
