@@ -1,13 +1,14 @@
 """The desk: takes a line of calls on one nest and tells what each of them answers."""
 
 from loopnest.nest import MOST_LOOPS, Nest
-from loopnest.reading import ACCESS, DEP, INIT, MEET, STMT, read_calls
+from loopnest.reading import ACCESS, CARRIED, DEP, INIT, LEVEL, MEET, STEPS, STMT, TRY, read_calls
+from loopnest.rows import ROW_LENGTH
 
 MOST_ROUNDS = 64
 MOST_STATEMENTS = 3
 MOST_ACCESSES = 3
 LAST_ARRAY = 7
-TWO_ROWS = 8
+LONGEST_TIME = 4
 
 
 def answers(calls):
@@ -40,8 +41,16 @@ class Desk:
             return answer_meet(self.nest, call.lists[0], call.lists[1])
         if call.kind == DEP:
             return answer_dep(self.nest, call.numbers[0], call.numbers[1])
-        # The other calls aren't written yet: a number that no call answers can't be taken for a true answer.
-        return tell(-9, [])
+        if call.kind == CARRIED:
+            return answer_carried(self.nest, call.numbers[0])
+        if call.kind == TRY:
+            return answer_try(self.nest, call.numbers[0], call.lists[0])
+        if call.kind == STEPS:
+            return answer_steps(self.nest)
+        if call.kind == LEVEL:
+            return answer_level(self.nest, call.lists[0])
+        # The only kind that's left is at.
+        return answer_at(self.nest, call.numbers[0])
 
     def answer_init(self, d, n):
         if not loops_go(d, n):
@@ -53,6 +62,11 @@ class Desk:
 def tell(number, behind):
     # The 0 says how many bytes are told: no call tells any.
     return [number, 0, len(behind)] + behind
+
+
+def tell_pair(pair):
+    """An empty pair says that there's none."""
+    return tell(1 if len(pair) > 0 else 0, pair)
 
 
 def loops_go(d, n):
@@ -76,7 +90,7 @@ def answer_stmt(nest):
 def answer_access(nest, numbers, rows):
     s = numbers[0]
     array = numbers[1]
-    if not nest.has_statement(s) or array > LAST_ARRAY or len(rows) != TWO_ROWS:
+    if not nest.has_statement(s) or array > LAST_ARRAY or len(rows) != 2 * ROW_LENGTH:
         return tell(-1, [])
     if nest.access_count(s) == MOST_ACCESSES:
         return tell(-2, [])
@@ -93,5 +107,31 @@ def answer_meet(nest, u, v):
 def answer_dep(nest, s, t):
     if not nest.has_statement(s) or not nest.has_statement(t):
         return tell(-1, [])
-    pair = nest.first_pair(s, t)
-    return tell(1 if len(pair) > 0 else 0, pair)
+    return tell_pair(nest.meetings().first_dependence(s, t))
+
+
+def answer_carried(nest, loop):
+    if not nest.has_loop(loop):
+        return tell(-1, [])
+    return tell_pair(nest.meetings().first_carried(loop))
+
+
+def answer_try(nest, k, rows):
+    if k < 1 or k > LONGEST_TIME or len(rows) != nest.statement_count() * k * ROW_LENGTH:
+        return tell(-1, [])
+    return tell_pair(nest.meetings().first_barred(k, rows))
+
+
+def answer_steps(nest):
+    # The steps go from 0 to the last that one needs; without instances there's none.
+    return tell(max(nest.meetings().levels, default=-1) + 1, [])
+
+
+def answer_level(nest, u):
+    if not nest.is_instance(u):
+        return tell(-1, [])
+    return tell(nest.level_of(u), [])
+
+
+def answer_at(nest, step):
+    return tell(nest.meetings().levels.count(step), [])

@@ -5,8 +5,12 @@ STMT = 1
 ACCESS = 2
 MEET = 3
 DEP = 4
+CARRIED = 5
+TRY = 6
+STEPS = 7
+LEVEL = 8
 
-# By the call's number, also of the calls that have no name above: how many whole numbers it has, then how many lists.
+# By the call's number: how many whole numbers it has, then how many lists.
 SHAPES = ((1, 1), (0, 0), (3, 1), (0, 2), (2, 0), (1, 0), (1, 1), (0, 0), (0, 1), (1, 0))
 
 

@@ -90,6 +90,15 @@ def parted(told, how_many):
     return parts
 
 
+def differences(told, wanted):
+    """The first places where long lists differ; unittest's own comparison of such lists may take hours."""
+    places = [k for k in range(min(len(told), len(wanted))) if told[k] != wanted[k]]
+    found = [(k, told[k], wanted[k]) for k in places[:5]]
+    if len(told) != len(wanted):
+        found.append(("how many", len(told), len(wanted)))
+    return found
+
+
 def ask(*calls):
     return parted(answers(line_of(calls)), len(calls))
 

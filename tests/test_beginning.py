@@ -12,7 +12,9 @@ EVERY_CALL_BUT_INIT = [
 ]
 WRONG_CALLS = [
     access(HUGE, HUGE, HUGE, []), access(0, 8, 0, [1] * 20), meet([], []), meet([HUGE] * 10, [1] * 3),
-    dep(HUGE, HUGE), carried(HUGE), attempt(0, []), attempt(HUGE, [-1] * 80), level([]), level([HUGE] * 10), at(HUGE),
+    dep(HUGE, HUGE), carried(3), carried(HUGE), attempt(0, []), attempt(0, [0] * 4), attempt(5, [0] * 20),
+    attempt(1, [0] * 3), attempt(1, []), attempt(4, [-1] * 80), attempt(HUGE, [-1] * 80), level([]), level([0] * 3),
+    level([0, 0, 0, 1]), level([64, 0, 0, 0]), level([HUGE] * 10), at(1), at(HUGE),
 ]
 
 
@@ -34,7 +36,7 @@ class Beginning(unittest.TestCase):
 
     def test_refused_init_leaves_no_nest(self):
         for refused in (init(0, []), init(4, [1] * 4), init(1, [65]), init(2, [1])):
-            for call in EVERY_CALL_BUT_INIT:
+            for call in EVERY_CALL_BUT_INIT + WRONG_CALLS:
                 with self.subTest(refused=refused, call=call):
                     self.assertEqual(ask(refused, call), [WRONG, NO_NEST])
 

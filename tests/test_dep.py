@@ -3,7 +3,8 @@
 import random
 import unittest
 
-from lines import HUGE, LEAST, MOST, NO, WRONG, access, answers, ask, dep, last, loops, meet, read, stmt, write
+from lines import (HUGE, LEAST, MOST, NO, WRONG, access, answers, ask, dep, differences, last, loops, meet, read, stmt,
+                   write)
 
 ZERO = [0, 0, 0, 0]
 X = [0, 1, 0, 0]
@@ -143,7 +144,7 @@ class AgainstTheWords(unittest.TestCase):
                 asked.append(meet(u, v))
                 wanted.append((1 if do_meet(accesses, u, v) else 0, []))
             with self.subTest(calls=calls):
-                self.assertEqual(ask(*calls, *asked)[len(calls):], wanted)
+                self.assertEqual(differences(ask(*calls, *asked)[len(calls):], wanted), [])
 
 
 if __name__ == "__main__":

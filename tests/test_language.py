@@ -138,6 +138,10 @@ class Language(unittest.TestCase):
             for node in ast.walk(tree):
                 if isinstance(node, ast.Name):
                     self.assertIn(node.id, bound + imported + BUILT_IN, (path, node.lineno))
+            classes = [node.name for node in tree.body if isinstance(node, ast.ClassDef)]
+            self.assertEqual(len(classes + imported), len(set(classes + imported)), path)
+            for name in classes + imported:
+                self.assertEqual(bound.count(name), 1 if name in classes else 0, (path, name))
 
     def test_methods(self):
         classes = [node for path, node in self.nodes(ast.ClassDef)]
@@ -146,6 +150,21 @@ class Language(unittest.TestCase):
         self.assertEqual(set(methods) & set(stored), set())
         for path, node in self.nodes(ast.Attribute):
             self.assertIn(node.attr, METHODS + methods + stored, (path, node.lineno))
+        # What Python's own values have as a method is no name of the program's own.
+        taken = [name for kind in (str, int, list, dict, set, bytes, tuple) for name in dir(kind)]
+        for name in methods + stored:
+            if name != "__init__":
+                self.assertNotIn(name, taken)
+
+    def test_no_walked_set_and_no_kept_walk(self):
+        for path, node in self.nodes(ast.Assign, ast.Return):
+            if isinstance(node.value, ast.Call) and isinstance(node.value.func, ast.Name):
+                walked = ("set", "zip", "enumerate", "reversed", "range")
+                self.assertNotIn(node.value.func.id, walked, (path, node.lineno))
+        for path, node in self.nodes(ast.Compare):
+            for operation, right in zip(node.ops, node.comparators):
+                if isinstance(operation, (ast.Is, ast.IsNot)):
+                    self.assertIn(getattr(right, "value", "other"), (None, True, False), (path, node.lineno))
 
 
 if __name__ == "__main__":
